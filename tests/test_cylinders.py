@@ -186,21 +186,17 @@ class SpeedChanges(unittest.TestCase):
         self.assertEqual(told_of([found[-1]], 0), [])
 
     def test_gone_by_later_than_most(self):
-        # Told to go on at tooth 0; it slows to 1366 a tooth, then the advance grows.
+        # Told at tooth 1 to go on 1240 behind tooth 0; it slows to 1366 a tooth, then the advance grows.
         how = dict(dwell=9000, most=9000, advance=self.lines(0, 200))
         times = [ZERO + 1024 + 1366 * k for k in range(7)]
         found = run_by_times(how, times + [times[-1] + 512, times[-1] + 1024], d=1024)
-        self.assertEqual(told_of(found[:2], 0), [(ON, 0, ZERO + 1240), (SOFT, 0, ZERO + 10240)])
-        # 9732 is 8492 behind its going on: there is a spark.
-        self.assertEqual(told_of(found[2:], 0), [(SPARK, 0, times[-1] + 512)])
-        how = dict(dwell=8491, most=8491, advance=self.lines(0, 200))
-        found = run_by_times(how, times + [times[-1] + 512, times[-1] + 1024], d=1024)
-        self.assertEqual(told_of(found, 0)[0], (ON, 0, ZERO + 1749))
-        how = dict(dwell=9000, most=9000, advance=self.lines(0, 200))
-        late = [times[-1] + 1366, times[-1] + 1366 + 512]
-        found = run_by_times(how, times + late, d=1024)
-        # 10586 and later is more than 9000 behind 1240: it stays with the soft going off.
-        self.assertEqual(told_of(found[2:], 0), [])
+        # Tooth 8, at 9732, is 8492 behind its going on: there is a spark.
+        self.assertEqual(told_of(found, 0), [(ON, 0, ZERO + 1240), (SOFT, 0, ZERO + 10240),
+                                             (SPARK, 0, times[-1] + 512)])
+        times.append(times[-1] + 1366)
+        found = run_by_times(how, times + [times[-1] + 512], d=1024)
+        # Tooth 9, at 11098, is more than 9000 behind it: it stays with the soft going off.
+        self.assertEqual(told_of(found, 0), [(ON, 0, ZERO + 1240), (SOFT, 0, ZERO + 10240)])
 
     def test_one_that_would_come_twice_when_the_advance_falls(self):
         # At 512 a tooth the spark's position is 128, and at 690 (line 5 of the table) it is 640 again.
