@@ -30,9 +30,12 @@ class Crank:
         self.move(gap)
         self.settle_turn()
 
+    def stands_still(self, t):
+        return self.last_time is not None and t - self.last_time > LONGEST_INTERVAL
+
     def interval_at(self, t):
         # A tooth behind too long an interval counts as the first of all, and the first has none.
-        if self.last_time is None or t - self.last_time > LONGEST_INTERVAL:
+        if self.last_time is None or self.stands_still(t):
             return None
         return t - self.last_time
 
@@ -52,7 +55,7 @@ class Crank:
             self.place += 1
 
     def settle_turn(self):
-        if self.certainty != SURELY:
+        if not self.is_sure():
             self.turn = None
         elif self.place == 0:
             self.turn = self.turn_begun()
@@ -69,5 +72,8 @@ class Crank:
     def tell_cam(self):
         self.cam_told = True
 
+    def is_sure(self):
+        return self.certainty == SURELY
+
     def is_known(self):
-        return self.certainty == SURELY and self.turn is not None
+        return self.is_sure() and self.turn is not None

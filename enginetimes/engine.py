@@ -9,12 +9,19 @@ REFUSED = -22
 CYLINDERS = 4
 LONGEST_MOST = 65536
 MOST_ADVANCE = 1024
+MOST_LOAD = 3840
 # 2 to the 62nd
 TIMES_END = 4611686018427387904
+
+TOOTH_NOT_KNOWN = 255
+TURN_NOT_KNOWN = 2
 
 START = 0
 TOOTH = 1
 CAM = 2
+LOAD = 3
+TICK = 4
+STATE = 5
 
 
 class UnknownCall(ValueError):
@@ -52,8 +59,11 @@ class Engine:
         self.begin(dwell, most, advances, fuels)
         return [0]
 
+    def may_come(self, t):
+        return t < TIMES_END and self.crank.comes_behind(t)
+
     def tooth(self, t):
-        if t >= TIMES_END or not self.crank.comes_behind(t):
+        if not self.may_come(t):
             return [REFUSED]
         self.crank.pass_tooth(t)
         if not self.crank.is_known():
@@ -82,6 +92,26 @@ class Engine:
         self.crank.tell_cam()
         return [0]
 
+    def load(self, load):
+        if load > MOST_LOAD:
+            return [REFUSED]
+        self.load_now = load
+        return [0]
+
+    def tick(self, t):
+        if not self.may_come(t):
+            return [REFUSED]
+        if not self.crank.stands_still(t):
+            return [0]
+        self.crank = Crank()
+        return [1] + self.give_up_all(t)
+
+    def state(self):
+        phases = [cylinder.phase for cylinder in self.cylinders]
+        place = self.crank.place if self.crank.is_sure() else TOOTH_NOT_KNOWN
+        turn = self.crank.turn if self.crank.is_known() else TURN_NOT_KNOWN
+        return [0] + phases + [place, turn]
+
 
 def answers(calls):
     engine = Engine()
@@ -100,7 +130,7 @@ def call_length(calls, place):
     if calls[place] == START:
         fuel_count = place + 4 + calls[place + 3]
         return fuel_count + 1 + calls[fuel_count] - place
-    return 2 if calls[place] == TOOTH else 1
+    return 2 if calls[place] in (TOOTH, LOAD, TICK) else 1
 
 
 def answer_call(engine, call):
@@ -111,4 +141,10 @@ def answer_call(engine, call):
         return engine.tooth(call[1])
     if call[0] == CAM:
         return engine.cam()
+    if call[0] == LOAD:
+        return engine.load(call[1])
+    if call[0] == TICK:
+        return engine.tick(call[1])
+    if call[0] == STATE:
+        return engine.state()
     raise UnknownCall("no such call")

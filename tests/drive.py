@@ -3,8 +3,11 @@
 from enginetimes.engine import answers
 
 CAM = [2]
+STATE = [5]
 REFUSED = [-22]
 ON, SPARK, SOFT, OPENS, CLOSES = range(5)
+# What state answers where nothing is known and no cylinder is on or done.
+NOTHING_KNOWN = [0, 0, 0, 0, 0, 255, 2]
 
 
 def flat(number):
@@ -15,6 +18,10 @@ def by_line(numbers):
     return [number for number in numbers for column in range(16)]
 
 
+def by_column(numbers):
+    return list(numbers) * 16
+
+
 def start(dwell=3000, most=5000, advance=None, fuel=None):
     advance = flat(100) if advance is None else advance
     fuel = flat(0) if fuel is None else fuel
@@ -23,6 +30,14 @@ def start(dwell=3000, most=5000, advance=None, fuel=None):
 
 def tooth(t):
     return [1, t]
+
+
+def load(number):
+    return [3, number]
+
+
+def tick(t):
+    return [4, t]
 
 
 def teeth(times):
